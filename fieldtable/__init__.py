@@ -1,0 +1,1 @@
+"""Fieldtable: header fields of many streams written against one table."""
