@@ -1,6 +1,6 @@
 """What fields, settings and octets are, and how octets write numbers and strings."""
 
-from fieldtable.errors import NoOctetList, NoOctets, NoValue
+from fieldtable.errors import NoOctetList, NoOctets, NoSetting, NoStream, NoValue
 
 NUMBER_MOST = 9999
 STREAM_MOST = 20
@@ -85,6 +85,18 @@ def is_setting(thing):
 def are_octets(thing):
     """Whether this is a list of octets."""
     return isinstance(thing, list) and all([is_between(octet, 0, 255) for octet in thing])
+
+
+def check_setting(setting):
+    """Raise NoSetting for what is no setting."""
+    if not is_setting(setting):
+        raise NoSetting("a setting is a tuple (fixed, room, waiting)")
+
+
+def check_stream(stream):
+    """Raise NoStream for what is no stream."""
+    if not is_stream(stream):
+        raise NoStream("a stream is an integer from 0 to 20")
 
 
 def check_octets(octets):

@@ -1,6 +1,7 @@
 """Some of the rules for the package's files that can be checked by looking at them."""
 
 import ast
+import builtins
 import pathlib
 import unittest
 
@@ -14,6 +15,12 @@ BUILTINS = set(
 )
 BARRED = (
     ast.AsyncFunctionDef, ast.AsyncFor, ast.AsyncWith, ast.Await, ast.Import, ast.Div, ast.MatMult, ast.MatchMapping,
+)
+# The methods of lists, dicts and strings that the package uses.
+OF_VALUES = {"append", "extend", "get", "items", "values", "__init__"}
+BARRED_ATTRIBUTES = set(
+    "items keys values pop update append clear extend insert remove reverse setdefault sort args encode decode hex "
+    "fromhex format mro elements open input law add_note".split()
 )
 
 
@@ -66,6 +73,8 @@ class LanguageTest(unittest.TestCase):
                     bound.add(node.name)
                 elif isinstance(node, ast.arg):
                     bound.add(node.arg)
+                elif isinstance(node, ast.ExceptHandler):
+                    bound.add(node.name)
                 elif isinstance(node, ast.Name) and isinstance(node.ctx, ast.Store):
                     bound.add(node.id)
             for node in ast.walk(tree):
@@ -73,6 +82,45 @@ class LanguageTest(unittest.TestCase):
                     with self.subTest(file=name, line=node.lineno):
                         self.assertIn(node.id, bound)
                         self.assertFalse(node.id.startswith("__"))
+
+    def test_no_name_means_two_things(self):
+        for name, tree in self.trees():
+            taken = set(dir(builtins)) - {"_"}
+            for node in tree.body:
+                if isinstance(node, ast.ImportFrom):
+                    taken.update(alias.name for alias in node.names)
+                elif isinstance(node, ast.ClassDef):
+                    taken.add(node.name)
+            bound = {node.arg for node in ast.walk(tree) if isinstance(node, ast.arg)}
+            for node in ast.walk(tree):
+                if isinstance(node, ast.Name) and isinstance(node.ctx, ast.Store):
+                    bound.add(node.id)
+            with self.subTest(file=name):
+                self.assertEqual(bound & taken, set())
+
+    def test_no_name_is_a_method_and_an_attribute(self):
+        methods, attributes, read = set(), set(), set()
+        for _, tree in self.trees():
+            for node in ast.walk(tree):
+                if isinstance(node, ast.ClassDef):
+                    methods.update(part.name for part in node.body if isinstance(part, ast.FunctionDef))
+                elif isinstance(node, ast.Attribute) and isinstance(node.ctx, ast.Store):
+                    attributes.add(node.attr)
+                elif isinstance(node, ast.Attribute):
+                    read.add(node.attr)
+        self.assertEqual(methods & attributes, set())
+        self.assertEqual(read - methods - attributes - OF_VALUES, set())
+        self.assertEqual(attributes & BARRED_ATTRIBUTES, set())
+
+    def test_modules_do_not_import_each_other(self):
+        imports = {}
+        for name, tree in self.trees():
+            imports["fieldtable." + name[:-3]] = {node.module for node in ast.walk(tree) if isinstance(node, ast.ImportFrom)}
+        left = dict(imports)
+        while left:
+            free = [module for module in left if not left[module] & set(left)]
+            self.assertNotEqual(free, [], left)
+            left = {module: left[module] for module in left if module not in free}
 
     def test_no_kind_of_code_is_used_that_is_barred_everywhere(self):
         for name, tree in self.trees():
