@@ -3,7 +3,7 @@
 from fieldtable.blocks import write_block
 from fieldtable.errors import BadAnswer, Held, NoField, NoNumber, NoOctets, TooGreat
 from fieldtable.instructions import take_answer, write_instruction
-from fieldtable.octets import Reader, are_fields, check_octets, check_setting, check_stream, is_between, is_field
+from fieldtable.octets import Reader, are_fields, check_octets, check_setting, check_stream, is_field, is_number
 from fieldtable.shortest import shortest_block
 from fieldtable.tables import Table, entry_size
 
@@ -25,7 +25,7 @@ class Sender:
 
     def again(self, number):
         """Insert a field equal to an entry."""
-        if not is_between(number, 0, self.table.made - 1) or number not in self.table.kept:
+        if not is_number(number) or number not in self.table.kept:
             raise NoNumber("there is no such entry")
         return self.send_insertion(("again", self.table.made - 1 - number), self.table.kept[number])
 

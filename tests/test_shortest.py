@@ -256,7 +256,8 @@ class ShortestBlockTest(unittest.TestCase):
     def test_great_numbers(self):
         for last in (253, 254, 255, 256, 381, 382, 383, 9998):
             entries = {last - more: ("a", str(more)) for more in range(12)}
-            for fields in [(("a", "0"),), (("a", "11"),), (("a", "0"), ("a", "11")), (("a", "q"),), (("b", "q"),)]:
+            for fields in [(("a", "0"),), (("a", "11"),), (("a", "0"), ("a", "11")), (("a", "0"), ("a", "9")),
+                           (("a", "1"), ("a", "10")), (("a", "q"),), (("b", "q"),)]:
                 pairs = [(0, 0)]
                 for required in range(last - 12, last + 2):
                     pairs += [(required, base) for base in range(required - 16, required + 1)]
