@@ -17,7 +17,7 @@ class Receiver:
         self.begun = []
         self.carried = 0
         self.queues = {}
-        self.done = []
+        self.lists_read = []
         self.told = 0
         self.cancelled = {}
         self.unsent = []
@@ -59,7 +59,7 @@ class Receiver:
 
     def finish(self, stream, required, fields):
         """Note that a block with this required was read."""
-        self.done.append((stream, fields))
+        self.lists_read.append((stream, fields))
         if required > 0:
             self.told = max(self.told, required)
             self.unsent.extend(write_answer(("done", stream)))
@@ -83,7 +83,7 @@ class Receiver:
 
     def lists(self):
         """All that was read, as (stream, list of fields) each."""
-        return list(self.done)
+        return list(self.lists_read)
 
     def answers(self):
         """The octets of the answers that were made since the last call."""
