@@ -22,6 +22,19 @@ class Receiver:
         self.cancelled = {}
         self.unsent = []
 
+    def copied(self):
+        """A receiver like this one, to which changes of this one mean nothing."""
+        receiver = Receiver(self.table.setting)
+        receiver.table = self.table.copied()
+        receiver.begun = list(self.begun)
+        receiver.carried = self.carried
+        receiver.queues = {stream: list(self.queues[stream]) for stream in self.queues}
+        receiver.lists_read = list(self.lists_read)
+        receiver.told = self.told
+        receiver.cancelled = dict(self.cancelled)
+        receiver.unsent = list(self.unsent)
+        return receiver
+
     def take(self, octets):
         """Take the next octets of the table's stream."""
         check_octets(octets)

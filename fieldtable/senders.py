@@ -17,6 +17,13 @@ class Sender:
         self.waiting_most = setting[2]
         self.account = Account()
 
+    def copied(self):
+        """A sender like this one, to which changes of this one mean nothing."""
+        sender = Sender(self.table.setting)
+        sender.table = self.table.copied()
+        sender.account = self.account.copied()
+        return sender
+
     def insert(self, field):
         """Insert a field, by a shortest instruction."""
         if not is_field(field):

@@ -23,6 +23,13 @@ FUNCTIONS = {
     "fieldtable.shortest": {
         "shortest": ["setting", "entries", "fields"], "are_lengths": ["setting", "entries", "fields", "thing"],
     },
+    "fieldtable.orders": {
+        "is_log": ["thing"], "run_order": ["setting", "log", "order"], "fails": ["setting", "log", "order"],
+    },
+    "fieldtable.judging": {
+        "judge": ["setting", "log"], "ledger": ["setting", "log"], "repair": ["setting", "log"], "widest": ["setting", "log"],
+    },
+    "fieldtable.states": {"all_states": ["setting", "log"], "are_states": ["setting", "log", "thing"]},
 }
 METHODS = {
     ("fieldtable.receivers", "Receiver"): {
@@ -33,8 +40,16 @@ METHODS = {
         "__init__": ["setting"], "insert": ["field"], "again": ["number"], "limit": ["n"], "block": ["stream", "fields"],
         "answer": ["octets"], "held": [], "may_wait": [], "known": [], "count": [], "entries": [],
     },
+    ("fieldtable.wires", "Wire"): {
+        "__init__": ["setting"], "insert": ["field"], "again": ["number"], "limit": ["n"], "block": ["stream", "fields"],
+        "carry_table": ["n"], "carry_block": ["stream"], "carry_answers": [], "tell": ["n"], "cancel": ["stream"],
+        "lists": [], "waiting": [], "held": [], "may_wait": [], "log": [], "mark": [], "back": ["number"],
+    },
 }
 SETTING = ((("h", "x"),), 60, 1)
+# In the second one an entry leaves although it is held.
+GOOD_LOG = [("table", [65, 97, 1, 120]), ("table", [0])]
+BAD_LOG = [("table", [65, 97, 1, 120]), ("block", 3, [1, 0, 128]), ("table", [32])]
 # Each function with arguments in their places, in the order in which the interface lists their names.
 CALLS = [
     ("fieldtable.octets", "is_field", [("a", "x")]),
@@ -56,6 +71,15 @@ CALLS = [
     ("fieldtable.tables", "says", [SETTING, {0: ("a", "x")}, (1, 0, (("entry", 0), ("fixed", 0)))]),
     ("fieldtable.shortest", "shortest", [SETTING, {0: ("a", "x")}, (("a", "x"), ("h", "x"))]),
     ("fieldtable.shortest", "are_lengths", [SETTING, {}, (("h", "x"),), {(0, 0): 3}]),
+    ("fieldtable.orders", "is_log", [GOOD_LOG]),
+    ("fieldtable.orders", "run_order", [SETTING, GOOD_LOG, [("send",), ("table",)]]),
+    ("fieldtable.orders", "fails", [SETTING, BAD_LOG, [("send",), ("send",), ("send",), ("table",), ("table",), ("block", 3)]]),
+    ("fieldtable.judging", "judge", [SETTING, BAD_LOG]),
+    ("fieldtable.judging", "ledger", [SETTING, GOOD_LOG]),
+    ("fieldtable.judging", "repair", [SETTING, BAD_LOG]),
+    ("fieldtable.judging", "widest", [SETTING, BAD_LOG[:2]]),
+    ("fieldtable.states", "all_states", [SETTING, GOOD_LOG]),
+    ("fieldtable.states", "are_states", [SETTING, GOOD_LOG[:0], [(0, 0, (), 0, ())]]),
 ]
 # The same for methods, as calls one behind the other on one object.
 RECEIVER_CALLS = [
@@ -63,6 +87,10 @@ RECEIVER_CALLS = [
 ]
 SENDER_CALLS = [
     ("insert", [("a", "x")]), ("again", [0]), ("limit", [20]), ("block", [3, (("a", "x"),)]), ("answer", [[131, 1]]),
+]
+WIRE_CALLS = [
+    ("insert", [("a", "x")]), ("block", [3, (("a", "x"),)]), ("again", [0]), ("limit", [20]), ("carry_block", [3]),
+    ("carry_table", [5]), ("tell", [1]), ("cancel", [4]), ("back", [0]),
 ]
 
 
@@ -110,6 +138,8 @@ class InterfaceTest(unittest.TestCase):
         made = getattr(importlib.import_module(module_name), class_name)
         plain, named = made(SETTING), made(setting=SETTING)
         shown = [name for name in methods if not methods[name]]
+        for show in shown:
+            self.assertEqual(getattr(plain, show)(), getattr(named, show)())
         for name, arguments in calls:
             with self.subTest(name=name):
                 result = getattr(plain, name)(*arguments)
@@ -120,6 +150,7 @@ class InterfaceTest(unittest.TestCase):
     def test_arguments_of_methods_in_their_places_and_by_their_names(self):
         self.check_methods("fieldtable.receivers", "Receiver", RECEIVER_CALLS)
         self.check_methods("fieldtable.senders", "Sender", SENDER_CALLS)
+        self.check_methods("fieldtable.wires", "Wire", WIRE_CALLS)
 
     def test_kinds_of_values(self):
         receivers, senders = importlib.import_module("fieldtable.receivers"), importlib.import_module("fieldtable.senders")
@@ -135,6 +166,15 @@ class InterfaceTest(unittest.TestCase):
         ]:
             for name, kind in kinds.items():
                 self.assertIs(type(getattr(thing, name)()), kind, name)
+
+    def test_kinds_of_values_of_a_wire(self):
+        wire = importlib.import_module("fieldtable.wires").Wire(SETTING)
+        self.assertIs(type(wire.mark()), int)
+        for name, arguments in WIRE_CALLS:
+            self.assertIsNone(getattr(wire, name)(*arguments))
+        kinds = {"carry_answers": type(None), "lists": list, "waiting": tuple, "held": tuple, "may_wait": tuple, "log": list}
+        for name, kind in kinds.items():
+            self.assertIs(type(getattr(wire, name)()), kind, name)
 
     def test_examples_of_the_readme(self):
         # The fences of the README would count as a part of what is printed.
