@@ -12,6 +12,7 @@ from fieldtable.senders import Sender
 from fieldtable.shortest import are_lengths, shortest
 from fieldtable.tables import run_table, says
 from tests import drawing
+from tests.both_ends import outcome
 from tests.slow_sender import SlowSender, sender_state
 
 STREAMS = [0, 1, 2, 3, 7, 20]
@@ -192,6 +193,33 @@ class BothEndsTest(unittest.TestCase):
         others[0].answer(others[1].answers())
         self.assertEqual(sender_state(sender), ((0,), (1,), 0, 1, {0: ("a", "x")}))
         self.assertEqual((receiver.count(), receiver.answers()), (1, [129]))
+
+    def parts(self, thing):
+        """All that an end holds, in its own objects too."""
+        if not hasattr(thing, "__dict__"):
+            return copy.deepcopy(thing)
+        return {name: self.parts(part) for name, part in vars(thing).items()}
+
+    def test_copies_that_the_ends_make_are_whole_and_stand_alone(self):
+        for seed in range(100):
+            ends = Ends(self, random.Random(seed))
+            for _ in range(40):
+                ends.step()
+            for end in (ends.sender, ends.receiver):
+                self.assertEqual(self.parts(end.copied()), self.parts(end))
+            others = ends.sender.copied(), ends.receiver.copied()
+            before = [self.parts(end) for end in others]
+            for _ in range(20):
+                ends.step()
+            ends.finish()
+            self.assertEqual([self.parts(end) for end in others], before)
+            after = [self.parts(end) for end in (ends.sender, ends.receiver)]
+            for name, arguments in [("insert", [("c", "z")]), ("limit", [0]), ("block", [9, (("a", "x"),)])]:
+                outcome(others[0], name, *arguments)
+            for name, arguments in [("take", [[65]]), ("block", [9, [0, 0]]), ("cancel", [11]), ("answers", [])]:
+                outcome(others[1], name, *arguments)
+            self.assertNotEqual([self.parts(end) for end in others], before)
+            self.assertEqual([self.parts(end) for end in (ends.sender, ends.receiver)], after)
 
     def test_two_senders_and_two_receivers_share_nothing(self):
         first, second = Sender(((), 120, 2)), Sender(((), 120, 2))

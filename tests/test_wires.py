@@ -306,6 +306,20 @@ class MarksTest(WireTest):
         wire.carry_answers()
         self.assertEqual((wire.held(), wire.log()[-1]), ((), done(2)))
 
+    def test_insertions_that_were_told_stay_told(self):
+        wire = self.sent()
+        wire.insert(FIELD)
+        wire.carry_table(5)
+        wire.tell(1)
+        wire.mark()
+        wire.tell(1)
+        for _ in range(2):
+            self.refuse(wire, NoNumber, "tell", 1)
+            wire.back(0)
+            wire.tell(1)
+        wire.carry_answers()
+        self.assertEqual(wire.log()[-2:], [received(1), received(1)])
+
     def test_what_a_caller_was_given_does_not_go_back(self):
         wire = self.sent()
         wire.mark()
