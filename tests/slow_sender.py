@@ -190,3 +190,21 @@ class SlowSender:
 def sender_state(sender):
     """What a sender shows, in the form of SlowSender.state."""
     return sender.held(), sender.may_wait(), sender.known(), sender.count(), sender.entries()
+
+
+def slow_ledger(setting, log):
+    """The ledger of a good log, worked out anew behind each event."""
+    slow, gone, rows = SlowSender(setting), [], []
+    for event in log:
+        if event[0] == "table":
+            slow.instructions.append(read_instruction(event[1]))
+        elif event[0] == "answer":
+            answer = read_answer(event[1])
+            slow.events.append(("answer", answer))
+            if answer[0] == "cancelled":
+                gone.append(answer[1])
+        elif event[1] not in gone:
+            slow.events.append(("block", event[1], read_block(event[2])))
+        held, may_wait, known, count, _ = slow.state()
+        rows.append((count, known, held, may_wait))
+    return rows

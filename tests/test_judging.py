@@ -6,10 +6,12 @@ import unittest
 
 from fieldtable.errors import NoAnswer
 from fieldtable.instructions import write_answer
-from fieldtable.judging import judge, repair
+from fieldtable.judging import judge, ledger, repair, widest
 from fieldtable.orders import fails
+from fieldtable.states import all_states
 from tests import logs
 from tests.logs import block, cancelled, done, received, table
+from tests.slow_sender import slow_ledger
 from tests.slow_world import SlowWorld
 
 NARROW = ((("h", "x"),), 12, 1)
@@ -255,24 +257,57 @@ class NoAnswerTest(LogsTest):
 
 
 class AllOrdersTest(LogsTest):
+    LETTERS = [
+        INSERT, table("again", 0), table("limit", 0), ("table", []), block(1, 1, 0, WHOLE), block(2, 1, 1), block(1, 0, 0),
+        done(1), received(1), cancelled(1),
+    ]
+
+    def check_slow(self, setting, log):
+        """Check that a walk through all orders says the same, and return what it says."""
+        slow = SlowWorld(setting, log).judge()
+        if slow[0] == "good":
+            self.check_good(setting, log)
+        elif slow[0] == "none":
+            self.check_none(setting, log, slow[1])
+        else:
+            repaired = repair(setting, log)
+            self.check_bad(setting, log, slow[1], repaired and repaired[1])
+            return slow + (repaired and repaired[1],)
+        return slow
+
+    def test_all_logs_of_few_events(self):
+        for setting in [((), 6, 1), ((), 12, 0)]:
+            good, seen = [[]], 0
+            for _ in range(4):
+                longer = []
+                for log in good:
+                    for letter in self.LETTERS:
+                        seen += 1
+                        with self.subTest(setting=setting, log=log, letter=letter):
+                            if self.check_slow(setting, log + [letter]) == ("good",):
+                                self.check_rest(setting, log + [letter])
+                                longer.append(log + [letter])
+                good = longer
+            self.assertGreater(seen, 900)
+
+    def check_rest(self, setting, log):
+        """Check what else is said of a good log."""
+        world = SlowWorld(setting, log)
+        self.assertEqual(ledger(setting, log), slow_ledger(setting, log))
+        self.assertEqual(widest(setting, log)[0], world.widest())
+        self.assertEqual(all_states(setting, log), world.states())
+
     def test_a_walk_through_all_orders_says_the_same(self):
         seen = {"good": 0, "bad": 0, "none": 0, "done": 0, "received": 0}
         for seed in range(700):
             chance = random.Random(seed)
             setting = logs.drawn_setting(chance)
             log = logs.drawn_log(chance, setting, chance.randint(1, 7), chance.choice([[0, 3], [1, 2, 3]]), logs.is_good)
-            slow = SlowWorld(setting, log).judge()
             with self.subTest(seed=seed, setting=setting, log=log):
+                slow = self.check_slow(setting, log)
                 seen[slow[0]] += 1
-                if slow[0] == "good":
-                    self.check_good(setting, log)
-                elif slow[0] == "none":
-                    self.check_none(setting, log, slow[1])
-                else:
-                    repaired = repair(setting, log)
-                    self.check_bad(setting, log, slow[1], repaired and repaired[1])
-                    if repaired:
-                        seen[repaired[1][0][0]] += 1
+                if slow[2:] and slow[2]:
+                    seen[slow[2][0][0]] += 1
         self.assertGreater(min(seen.values()), 4, seen)
 
 

@@ -4,36 +4,16 @@ import copy
 import random
 import unittest
 
-from fieldtable.blocks import read_block
 from fieldtable.errors import NoAnswer, NoLog
-from fieldtable.instructions import read_answer, read_instruction
 from fieldtable.judging import ledger, widest
 from fieldtable.orders import fails, run_order
 from tests import logs
 from tests.logs import block, cancelled, done, received, table
-from tests.slow_sender import SlowSender
+from tests.slow_sender import slow_ledger
 from tests.slow_world import SlowWorld
 
 INSERT = table("new", "a", "x")
 WHOLE = ("entry", 0)
-
-
-def slow_ledger(setting, log):
-    """The ledger of a good log, worked out anew behind each event."""
-    slow, gone, rows = SlowSender(setting), [], []
-    for event in log:
-        if event[0] == "table":
-            slow.instructions.append(read_instruction(event[1]))
-        elif event[0] == "answer":
-            answer = read_answer(event[1])
-            slow.events.append(("answer", answer))
-            if answer[0] == "cancelled":
-                gone.append(answer[1])
-        elif event[1] not in gone:
-            slow.events.append(("block", event[1], read_block(event[2])))
-        held, may_wait, known, count, _ = slow.state()
-        rows.append((count, known, held, may_wait))
-    return rows
 
 
 class LedgerTest(unittest.TestCase):
